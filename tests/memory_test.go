@@ -5,14 +5,27 @@ import (
 	"unsafe"
 )
 
-// shareBytes reports whether two strings lie, in part, in the same memory.
-func shareBytes(a string, b string) bool {
-	if len(a) == 0 || len(b) == 0 {
+// overlap reports whether a bytes from address startA and b bytes from startB meet.
+func overlap(startA uintptr, a int, startB uintptr, b int) bool {
+	if a == 0 || b == 0 {
 		return false
 	}
+	return startA < startB+uintptr(b) && startB < startA+uintptr(a)
+}
+
+// shareBytes reports whether two strings lie, in part, in the same memory.
+func shareBytes(a string, b string) bool {
 	startA := uintptr(unsafe.Pointer(unsafe.StringData(a)))
 	startB := uintptr(unsafe.Pointer(unsafe.StringData(b)))
-	return startA < startB+uintptr(len(b)) && startB < startA+uintptr(len(a))
+	return overlap(startA, len(a), startB, len(b))
+}
+
+// shareInts reports whether two slices, up to their capacities, lie in part in the same memory.
+func shareInts(a []int, b []int) bool {
+	startA := uintptr(unsafe.Pointer(unsafe.SliceData(a)))
+	startB := uintptr(unsafe.Pointer(unsafe.SliceData(b)))
+	size := int(unsafe.Sizeof(0))
+	return overlap(startA, cap(a)*size, startB, cap(b)*size)
 }
 
 func TestShareBytesSeesSubstrings(t *testing.T) {
@@ -21,6 +34,16 @@ func TestShareBytesSeesSubstrings(t *testing.T) {
 		t.Error("a part is not seen")
 	}
 	if shareBytes(s[:3], s[3:]) || shareBytes(s, string([]byte(s))) || shareBytes(s[:0], s) {
+		t.Error("separate memory is seen as shared")
+	}
+}
+
+func TestShareIntsSeesParts(t *testing.T) {
+	all := []int{1, 2, 3, 4, 5, 6}
+	if !shareInts(all, all) || !shareInts(all, all[2:3]) || !shareInts(all[2:3], all) || !shareInts(all[:2], all[3:]) {
+		t.Error("a part is not seen")
+	}
+	if shareInts(all[:3:3], all[3:]) || shareInts(all, []int{1, 2}) || shareInts(all, nil) || shareInts(nil, nil) {
 		t.Error("separate memory is seen as shared")
 	}
 }

@@ -223,7 +223,7 @@ func TestNewFieldRejects(t *testing.T) {
 func TestNewFieldsAreSeparate(t *testing.T) {
 	a, _ := impl.NewField(8, 8, 3)
 	b, _ := impl.NewField(8, 8, 3)
-	if shareInts(a.Cells, b.Cells) {
+	if shareElements(a.Cells, b.Cells) {
 		t.Error("two results share memory")
 	}
 }
@@ -293,7 +293,7 @@ func TestSetCellChangesOneCell(t *testing.T) {
 				want := countingField(f.Wide, f.High)
 				want.Cells[i] = value
 				expectField(t, "SetCell", g, ok, want)
-				if shareInts(f.Cells, g.Cells) {
+				if shareElements(f.Cells, g.Cells) {
 					t.Error("SetCell shares memory")
 				}
 				if !sameField(f, countingField(f.Wide, f.High)) {
@@ -420,7 +420,7 @@ func checkPartsAt(t *testing.T, f impl.Field, x int, y int) {
 				}
 			}
 			expectField(t, "SubField", part, ok, fieldOf(wide, high, cells...))
-			if shareInts(part.Cells, f.Cells) {
+			if shareElements(part.Cells, f.Cells) {
 				t.Error("SubField shares memory")
 			}
 		}
@@ -435,7 +435,7 @@ func TestSubFieldKeepsMissing(t *testing.T) {
 	expectField(t, "all Missing", part, ok, fieldOf(2, 1, gone, gone))
 	part, ok = impl.SubField(f, 0, 0, 3, 2)
 	expectField(t, "the whole", part, ok, f)
-	if shareInts(part.Cells, f.Cells) {
+	if shareElements(part.Cells, f.Cells) {
 		t.Error("the whole shares memory")
 	}
 }
@@ -612,7 +612,7 @@ func TestParsedFieldsAreSeparate(t *testing.T) {
 	text := "1 2\n. 4\n"
 	a, _ := impl.ParseField(text)
 	b, _ := impl.ParseField(text)
-	if shareInts(a.Cells, b.Cells) {
+	if shareElements(a.Cells, b.Cells) {
 		t.Error("two results share memory")
 	}
 	for i := range a.Cells[:cap(a.Cells)] {

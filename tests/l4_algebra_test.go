@@ -711,7 +711,7 @@ func checkMemory(t *testing.T, call algebraCall, fields []impl.Field) {
 		t.Errorf("%s of %v = %v and then %v", call.name, arguments, made, second)
 	}
 	want := slices.Clone(made.Cells)
-	if shareInts(made.Cells, second.Cells) {
+	if shareElements(made.Cells, second.Cells) {
 		t.Errorf("two results of %s share memory", call.name)
 	}
 	all := second.Cells[:cap(second.Cells)]
@@ -719,7 +719,7 @@ func checkMemory(t *testing.T, call algebraCall, fields []impl.Field) {
 		all[i] = 77
 	}
 	for i, room := range rooms {
-		if shareInts(made.Cells, room) {
+		if shareElements(made.Cells, room) {
 			t.Errorf("%s shares memory with argument %d", call.name, i)
 		}
 		if !slices.Equal(room, before[i]) {
@@ -741,7 +741,7 @@ func TestAlgebraOfOneFieldAsAllArguments(t *testing.T) {
 		f, room := roomy(fieldOf(3, 2, 1, -7, gone, 5, 0, -90))
 		before := slices.Clone(room)
 		made, ok := call.run(slices.Repeat([]impl.Field{f}, call.takes))
-		if !ok || shareInts(made.Cells, room) || !slices.Equal(room, before) {
+		if !ok || shareElements(made.Cells, room) || !slices.Equal(room, before) {
 			t.Errorf("%s = %v, %v, from %v", call.name, made, ok, room)
 		}
 	}

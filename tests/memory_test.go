@@ -20,11 +20,12 @@ func shareBytes(a string, b string) bool {
 	return overlap(startA, len(a), startB, len(b))
 }
 
-// shareInts reports whether two slices, up to their capacities, lie in part in the same memory.
-func shareInts(a []int, b []int) bool {
+// shareElements reports whether two slices, up to their capacities, lie in part in the same memory.
+func shareElements[E any](a []E, b []E) bool {
 	startA := uintptr(unsafe.Pointer(unsafe.SliceData(a)))
 	startB := uintptr(unsafe.Pointer(unsafe.SliceData(b)))
-	size := int(unsafe.Sizeof(0))
+	var element E
+	size := int(unsafe.Sizeof(element))
 	return overlap(startA, cap(a)*size, startB, cap(b)*size)
 }
 
@@ -38,12 +39,12 @@ func TestShareBytesSeesSubstrings(t *testing.T) {
 	}
 }
 
-func TestShareIntsSeesParts(t *testing.T) {
+func TestShareElementsSeesParts(t *testing.T) {
 	all := []int{1, 2, 3, 4, 5, 6}
-	if !shareInts(all, all) || !shareInts(all, all[2:3]) || !shareInts(all[2:3], all) || !shareInts(all[:2], all[3:]) {
+	if !shareElements(all, all) || !shareElements(all, all[2:3]) || !shareElements(all[2:3], all) || !shareElements(all[:2], all[3:]) {
 		t.Error("a part is not seen")
 	}
-	if shareInts(all[:3:3], all[3:]) || shareInts(all, []int{1, 2}) || shareInts(all, nil) || shareInts(nil, nil) {
+	if shareElements(all[:3:3], all[3:]) || shareElements(all, []int{1, 2}) || shareElements(all, nil) || shareElements[int](nil, nil) {
 		t.Error("separate memory is seen as shared")
 	}
 }

@@ -126,13 +126,9 @@ func plainChange(f impl.Field, r int) int {
 	return greatest
 }
 
-func samePeaks(a [][]int, b [][]int) bool {
-	return slices.EqualFunc(a, b, func(p []int, q []int) bool { return slices.Equal(p, q) })
-}
-
 func expectPeaks(t *testing.T, what string, got [][]int, ok bool, want [][]int) {
 	t.Helper()
-	if !ok || !samePeaks(got, want) {
+	if !ok || !sameLists(got, want) {
 		t.Errorf("%s: PeakCells = %v, %v, not %v", what, got, ok, want)
 	}
 }
